@@ -1,0 +1,320 @@
+"""For the tests: bytes of cartoons, drawings by coordinates, and what is beyond what, found another way.
+
+The way in which `ahead` and `seen_panes` find panes has nothing in common with the program's: the frame is cut into
+slabs along a way, at every point of the drawing; within a slab no lines meet, so the panes' pieces between
+them stand in one order, and pieces of neighbouring slabs belong together where no line parts them.
+"""
+
+from fractions import Fraction
+
+STEPS = [(1, 0), (1, 1), (0, 1), (-1, 1), (-1, 0), (-1, -1), (0, -1), (1, -1)]
+
+
+def low_first(number, size):
+    return [(number >> (8 * step)) & 255 for step in range(size)]
+
+
+def laid(width, height, points, lines, marks):
+    """The bytes of what is handed in, as it stands."""
+    data = [0x47, 0x4C, 0x41, 0x31] + low_first(width, 4) + low_first(height, 4)
+    data += low_first(len(points), 2) + low_first(len(lines), 2) + low_first(len(marks), 2) + [0, 0]
+    for x, y in points:
+        data += low_first(x, 4) + low_first(y, 4)
+    for first, second in lines:
+        data += low_first(first, 2) + low_first(second, 2)
+    for number, (x, y) in enumerate(marks):
+        data += low_first(x, 4) + low_first(y, 4) + low_first(7 * number, 2) + low_first(65535 - number, 2)
+    return data
+
+
+def by_place(point):
+    return (point[1], point[0])
+
+
+def segments_of(paths):
+    """The lines along paths of points, each with its lesser end first, none twice, in order."""
+    found = set()
+    for path in paths:
+        for p, q in zip(path, path[1:]):
+            found.add(tuple(sorted([p, q], key=by_place)))
+    return sorted(found, key=lambda ends: (by_place(ends[0]), by_place(ends[1])))
+
+
+def points_of(segments):
+    return sorted({point for ends in segments for point in ends}, key=by_place)
+
+
+def numbered(segments, points):
+    number = {point: n for n, point in enumerate(points)}
+    return sorted((number[p], number[q]) for p, q in segments)
+
+
+def drawn(width, height, paths, marks):
+    """The bytes of the drawing with lines along the paths; points, lines and marks are put in order."""
+    segments = segments_of(paths)
+    points = points_of(segments)
+    return laid(width, height, points, numbered(segments, points), sorted(marks, key=by_place))
+
+
+def frame(width, height, others=()):
+    """The path round the frame, by its corners and those of the others that lie on it."""
+    corners = {(0, 0), (width, 0), (0, height), (width, height)}
+    edge = corners | {p for p in others if p[0] in (0, width) or p[1] in (0, height)}
+    bottom = sorted(p for p in edge if p[1] == 0)
+    right = sorted((p for p in edge if p[0] == width and 0 < p[1] < height), key=by_place)
+    top = sorted((p for p in edge if p[1] == height), reverse=True)
+    left = sorted((p for p in edge if p[0] == 0 and 0 < p[1] < height), key=by_place, reverse=True)
+    return bottom + right + top + left + [(0, 0)]
+
+
+RUN_PATHS = [
+    [(0, 0), (30, 0), (30, 20), (0, 20), (0, 0), (10, 10), (30, 0)],
+    [(10, 10), (0, 20)],
+]
+RUN_MARKS = [(15, 2), (2, 10), (20, 15)]
+
+
+def the_run():
+    """The cartoon of 'A run', byte for byte from the document's numbers."""
+    points = [(0, 0), (30, 0), (10, 10), (0, 20), (30, 20)]
+    lines = [(0, 1), (0, 2), (0, 3), (1, 2), (1, 4), (2, 3), (3, 4)]
+    return laid(30, 20, points, lines, RUN_MARKS)
+
+
+def turned_left(height, point):
+    return (height - point[1], point[0])
+
+
+def turned_paths(height, paths):
+    return [[turned_left(height, point) for point in path] for path in paths]
+
+
+def turned_numbers(height, marks):
+    """For each pane its number when the drawing is turned by a quarter to the left."""
+    turned = [turned_left(height, mark) for mark in sorted(marks, key=by_place)]
+    order = sorted(turned, key=by_place)
+    return [order.index(mark) for mark in turned]
+
+
+# Two panes that wind round one another: by no way one gets past the other.
+SPIRAL = [(5, 40), (5, 5), (30, 5), (30, 25), (20, 25), (20, 15), (10, 15), (10, 35), (35, 35), (35, 0)]
+# Two panes hooked into one another: the right one gets away downwards alone.
+HOOK = [(10, 0), (10, 25), (15, 25), (15, 15), (20, 15), (20, 40)]
+# Four panes round a point in the middle.
+CROSS = [[(10, 0), (10, 10), (10, 20)], [(0, 10), (10, 10), (20, 10)]]
+CROSS_MARKS = [(5, 5), (15, 5), (5, 15), (15, 15)]
+
+
+def parted(width, height, path, marks):
+    """The bytes of a frame and a path across it from edge to edge."""
+    return drawn(width, height, [frame(width, height, path), path], marks)
+
+
+class Slabs:
+    """The frame cut along a way; `cells` has, slab by slab, the names of the pieces from the first on."""
+
+    def __init__(self, way, segments, places):
+        step = STEPS[way]
+        self.step = step
+        self.segments = [self.upright(p, q) for p, q in segments]
+        heights = {h for ends in self.segments for h in (ends[0][1], ends[1][1])}
+        self.heights = sorted(heights | {self.moved(place)[1] for place in places})
+        self.crossing = []
+        for low, high in zip(self.heights, self.heights[1:]):
+            middle = Fraction(low + high, 2)
+            within = [ends for ends in self.segments if ends[0][1] < middle < ends[1][1]]
+            self.crossing.append(sorted(within, key=lambda ends: at_height(ends, middle)))
+        self.over = {}
+        self.join_slabs()
+
+    def moved(self, point):
+        """The point as it lies if the way is laid to the right."""
+        return (self.step[0] * point[0] + self.step[1] * point[1], self.step[0] * point[1] - self.step[1] * point[0])
+
+    def upright(self, p, q):
+        return tuple(sorted([self.moved(p), self.moved(q)], key=by_place))
+
+    def gap(self, slab, number, height):
+        """From where to where the piece goes at the height, one of its slab's ends."""
+        lines = self.crossing[slab]
+        return at_height(lines[number], height), at_height(lines[number + 1], height)
+
+    def gaps(self, slab):
+        return range(len(self.crossing[slab]) - 1)
+
+    def name(self, slab, number):
+        """The piece that stands for all that hang together with this one."""
+        here = (slab, number)
+        while here in self.over:
+            here = self.over[here]
+        return here
+
+    def join_slabs(self):
+        for slab, height in enumerate(self.heights[1:-1]):
+            flat = sorted(ends for ends in self.segments if ends[0][1] == height == ends[1][1])
+            for below in self.gaps(slab):
+                for above in self.gaps(slab + 1):
+                    a, b = self.gap(slab, below, height)
+                    c, d = self.gap(slab + 1, above, height)
+                    if is_open(max(a, c), min(b, d), flat):
+                        self.join(self.name(slab, below), self.name(slab + 1, above))
+
+    def join(self, one, other):
+        if one != other:
+            self.over[max(one, other)] = min(one, other)
+
+    def piece_at(self, place):
+        """The name of the piece with that place in it, None if it is on a line or beside the frame."""
+        across, height = self.moved(place)
+        if not self.heights[0] < height < self.heights[-1]:
+            return None
+        flat = [ends for ends in self.segments if ends[0][1] == height == ends[1][1]]
+        if any(p[0] <= across <= q[0] for p, q in flat):
+            return None
+        slab = self.heights.index(height)
+        for number in self.gaps(slab):
+            low, high = self.gap(slab, number, height)
+            if low < across < high:
+                return self.name(slab, number)
+        return None
+
+    def names(self):
+        return sorted({self.name(slab, n) for slab in range(len(self.crossing)) for n in self.gaps(slab)})
+
+    def in_rows(self):
+        return [[self.name(slab, n) for n in self.gaps(slab)] for slab in range(len(self.crossing))]
+
+
+def at_height(ends, height):
+    (x, y), (z, w) = ends
+    return x + Fraction((z - x) * (height - y), w - y)
+
+
+def is_open(low, high, flat):
+    """Whether something between low and high is on none of the flat lines, which stand in order."""
+    for p, q in flat:
+        if low < high and p[0] <= low:
+            low = max(low, q[0])
+    return low < high
+
+
+def seen_panes(segments, marks):
+    """How many panes there are, and for each mark the name of its pane."""
+    slabs = Slabs(0, segments, marks)
+    return len(slabs.names()), [slabs.piece_at(mark) for mark in marks]
+
+
+def ahead(way, segments, marks):
+    """All pairs (i, j) of panes of which j is beyond i by the way; the marks stand in order."""
+    slabs = Slabs(way, segments, marks)
+    number = {slabs.piece_at(mark): n for n, mark in enumerate(marks)}
+    found = set()
+    for names in slabs.in_rows():
+        panes = [number[name] for name in names]
+        for place, i in enumerate(panes):
+            found |= {(i, j) for j in panes[place + 1:] if j != i}
+    return found
+
+
+class Dice:
+    """Numbers that look as if thrown, the same ones each time."""
+
+    def __init__(self, seed):
+        self.state = seed * 2654435761 + 12345
+
+    def below(self, bound):
+        self.state = (self.state * 6364136223846793005 + 1442695040888963407) % 2 ** 64
+        return (self.state >> 33) % bound
+
+    def shuffled(self, values):
+        left = list(values)
+        return [left.pop(self.below(len(left))) for value in values]
+
+
+def side(p, q, r):
+    found = (q[0] - p[0]) * (r[1] - p[1]) - (q[1] - p[1]) * (r[0] - p[0])
+    return (found > 0) - (found < 0)
+
+
+def between(p, q, r):
+    """Whether r is on the line p q and none of its ends."""
+    if side(p, q, r) or r in (p, q):
+        return False
+    return min(p[0], q[0]) <= r[0] <= max(p[0], q[0]) and min(p[1], q[1]) <= r[1] <= max(p[1], q[1])
+
+
+def fits(p, q, points, segments):
+    """Whether a line p q has no other point on it and crosses none of the segments."""
+    if any(between(p, q, r) for r in points) or (p, q) in segments or (q, p) in segments:
+        return False
+    for r, s in segments:
+        if side(p, q, r) * side(p, q, s) < 0 and side(r, s, p) * side(r, s, q) < 0:
+            return False
+    return True
+
+
+def hangs_together(points, segments):
+    """Whether all points hang together by lines."""
+    near = {point: [] for point in points}
+    for p, q in segments:
+        if p in near and q in near:
+            near[p].append(q)
+            near[q].append(p)
+    reached = [points[0]]
+    for point in reached:
+        reached += [other for other in sorted(near[point]) if other not in reached]
+    return len(reached) == len(points)
+
+
+def hangs_twice(points, segments):
+    """Whether they do so even if any one point is taken away."""
+    return all(hangs_together([p for p in points if p != gone], segments) for gone in points)
+
+
+def thrown(seed, width, height, inner, thin, stride=1):
+    """A drawing as if thrown: its segments, and a mark for each of its panes.
+
+    So many points are strewn (by strides), all lines drawn that fit, and so many of a hundred taken away again.
+    """
+    dice = Dice(seed)
+    strewn = set()
+    for throw in range(inner):
+        strewn.add((stride * dice.below(width // stride + 1), stride * dice.below(height // stride + 1)))
+    ring = frame(width, height, strewn)
+    segments = segments_of([ring])
+    points = sorted(strewn | set(ring), key=by_place)
+    pairs = [(p, q) for n, p in enumerate(points) for q in points[n + 1:]]
+    for p, q in dice.shuffled(pairs):
+        if fits(p, q, points, segments):
+            segments.append((p, q))
+    for ends in dice.shuffled(segments):
+        left = [other for other in segments if other != ends]
+        on_frame = any(ends[0][axis] == ends[1][axis] == edge
+                       for axis, edge in ((0, 0), (0, width), (1, 0), (1, height)))
+        if not on_frame and dice.below(100) < thin and hangs_twice(points, left):
+            segments = left
+    return segments_of(segments), thrown_marks(dice, width, height, segments)
+
+
+def thrown_marks(dice, width, height, segments):
+    """A mark in each pane, in order; None if some pane has no whole point in it."""
+    places = [(x, y) for y in range(1, height) for x in range(1, width)]
+    slabs = Slabs(0, segments, places)
+    marks = {}
+    for place in dice.shuffled(places):
+        name = slabs.piece_at(place)
+        if name is not None and name not in marks:
+            marks[name] = place
+    if len(marks) < len(slabs.names()):
+        return None
+    return sorted(marks.values(), key=by_place)
+
+
+def thrown_cartoons(seeds, width, height, inner, thin, stride=1):
+    """The segments and marks of those of the seeds that have a mark for each pane, and their bytes."""
+    found = []
+    for seed in seeds:
+        segments, marks = thrown(seed, width, height, inner, thin, stride)
+        if marks is not None:
+            found.append((segments, marks, drawn(width, height, segments, marks)))
+    return found

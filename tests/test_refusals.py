@@ -1,0 +1,70 @@
+"""What is refused, and what is looked at first."""
+
+import unittest
+
+import helper
+from paneslide.desk import beyond
+
+MOST = 18446744073709551615
+NOT_A_CARTOON = [-5, 1, 0]
+
+
+def padded(length):
+    """The run's bytes, with as many noughts behind them as the length asks for."""
+    run = helper.the_run()
+    return run + [0] * (length - len(run))
+
+
+class Beyond(unittest.TestCase):
+    def test_nothing_is_refused(self):
+        for i in range(3):
+            for j in range(3):
+                for way in range(8):
+                    answer = beyond(way, i, j, helper.the_run())
+                    self.assertEqual((answer[0], len(answer)), (0, 2))
+
+    def test_no_such_way(self):
+        for way in [8, 9, 15, 16, 255, 256, 4294967296, MOST - 7, MOST]:
+            self.assertEqual(beyond(way, 0, 1, helper.the_run()), [-1])
+
+    def test_too_many_bytes(self):
+        self.assertEqual(beyond(0, 0, 1, padded(131073)), [-6])
+        self.assertEqual(beyond(0, 0, 1, [0] * 131073), [-6])
+        self.assertEqual(beyond(0, 0, 1, [0] * 200000), [-6])
+
+    def test_just_not_too_many_bytes(self):
+        self.assertEqual(beyond(0, 0, 1, padded(131072)), [-5, 3, 20])
+        self.assertEqual(beyond(0, 0, 1, [0] * 131072), NOT_A_CARTOON)
+        self.assertEqual(beyond(0, 0, 1, padded(100000)), [-5, 3, 20])
+
+    def test_not_a_cartoon(self):
+        self.assertEqual(beyond(0, 0, 1, [0] * 20), NOT_A_CARTOON)
+        self.assertEqual(beyond(0, 0, 1, []), [-5, 1, 0])
+
+    def test_no_such_pane(self):
+        for number in [3, 4, 255, 256, 65536, 65537, 4294967296, MOST]:
+            self.assertEqual(beyond(0, number, 0, helper.the_run()), [-2])
+            self.assertEqual(beyond(0, 0, number, helper.the_run()), [-2])
+            self.assertEqual(beyond(0, number, number, helper.the_run()), [-2])
+        self.assertEqual(beyond(7, 2, 2, helper.the_run()), [0, 0])
+
+    def test_the_way_is_looked_at_first(self):
+        for cartoon in [helper.the_run(), [0] * 131073, [0] * 20, []]:
+            for number in [0, 3, MOST]:
+                self.assertEqual(beyond(8, number, 0, cartoon), [-1])
+                self.assertEqual(beyond(MOST, 0, number, cartoon), [-1])
+
+    def test_then_how_many_bytes_there_are(self):
+        for number in [0, 3, MOST]:
+            self.assertEqual(beyond(7, number, 0, padded(131073)), [-6])
+            self.assertEqual(beyond(7, 0, number, [0] * 131073), [-6])
+
+    def test_then_whether_they_are_a_cartoon(self):
+        for number in [0, 3, MOST]:
+            self.assertEqual(beyond(7, number, 0, []), [-5, 1, 0])
+            self.assertEqual(beyond(7, 0, number, [0] * 20), NOT_A_CARTOON)
+            self.assertEqual(beyond(7, number, number, helper.the_run() + [0]), [-5, 3, 20])
+
+
+if __name__ == "__main__":
+    unittest.main()
