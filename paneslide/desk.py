@@ -1,7 +1,7 @@
 """The calls: each by itself, nothing is kept."""
 
 from paneslide.judging import judged
-from paneslide.slide import is_beyond
+from paneslide.slide import is_beyond, panes_beyond
 
 MOST_BYTES = 131072
 
@@ -29,3 +29,12 @@ def beyond(way, i, j, cartoon):
     if i != j and is_beyond(way, panes[i], panes[j]):
         return [0, 1]
     return [0, 0]
+
+
+def row(way, i, cartoon):
+    """0, then how many panes are beyond pane i by the way, then these, rising; or a refusal."""
+    refusal, panes = looked_at(way, [i], cartoon)
+    if refusal:
+        return refusal
+    found = panes_beyond(way, i, panes)
+    return [0, len(found)] + found

@@ -54,3 +54,12 @@ def is_beyond(way, outline, other):
             if is_ahead(line, other_line):
                 return True
     return False
+
+
+def panes_beyond(way, i, panes):
+    """The numbers of the panes that are beyond pane i by the way, rising; the panes are told by their outlines."""
+    found = []
+    for j, outline in enumerate(panes):
+        if j != i and is_beyond(way, panes[i], outline):
+            found.append(j)
+    return found

@@ -318,3 +318,43 @@ def thrown_cartoons(seeds, width, height, inner, thin, stride=1):
         if marks is not None:
             found.append((segments, marks, drawn(width, height, segments, marks)))
     return found
+
+
+def strewn():
+    """Drawings of some panes each, with corners anywhere, and such with corners in rows."""
+    found = thrown_cartoons(range(100, 112), 24, 20, 11, 60)
+    found += thrown_cartoons(range(200, 212), 24, 20, 15, 70, 4)
+    found += thrown_cartoons(range(300, 306), 16, 16, 9, 90, 2)
+    return found
+
+
+def figures():
+    hook = segments_of([HOOK, frame(40, 40, HOOK)])
+    spiral = segments_of([SPIRAL, frame(40, 40, SPIRAL)])
+    edge = [(10, 0), (10, 20), (0, 10), (20, 10)]
+    cross = segments_of(CROSS + [frame(20, 20, edge)])
+    run = segments_of(RUN_PATHS)
+    return [
+        (hook, [(2, 2), (30, 2)], drawn(40, 40, hook, [(2, 2), (30, 2)])),
+        (spiral, [(2, 2), (38, 38)], drawn(40, 40, spiral, [(2, 2), (38, 38)])),
+        (cross, CROSS_MARKS, drawn(20, 20, cross, CROSS_MARKS)),
+        (run, RUN_MARKS, the_run()),
+    ]
+
+
+QUARTER = [(1, 0), (2, 1), (1, 1), (1, 2)]
+AROUND = [(x, y) for x, y in QUARTER] + [(-y, x) for x, y in QUARTER]
+AROUND += [(-x, -y) for x, y in AROUND]
+
+
+def fan(arms):
+    """A ring about (20, 20) and arms from there to it, as narrow as can be beside one another where they begin."""
+    ring = [(20 + 6 * x, 20 + 6 * y) for x, y in AROUND]
+    paths = [ring + ring[:1], [(32, 26), (40, 40)], [(8, 14), (0, 0)], frame(40, 40)]
+    marks = [(39, 1), (1, 39)]
+    for arm in arms:
+        x, y = AROUND[arm]
+        x_behind, y_behind = AROUND[(arm + 1) % 16]
+        paths.append([(20, 20), (20 + x, 20 + y), (20 + 6 * x, 20 + 6 * y)])
+        marks.append((20 + x + x_behind, 20 + y + y_behind))
+    return segments_of(paths), sorted(marks, key=by_place), drawn(40, 40, paths, marks)

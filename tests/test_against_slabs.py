@@ -6,46 +6,6 @@ import helper
 from paneslide.desk import beyond
 
 
-def strewn():
-    """Drawings of some panes each, with corners anywhere, and such with corners in rows."""
-    found = helper.thrown_cartoons(range(100, 112), 24, 20, 11, 60)
-    found += helper.thrown_cartoons(range(200, 212), 24, 20, 15, 70, 4)
-    found += helper.thrown_cartoons(range(300, 306), 16, 16, 9, 90, 2)
-    return found
-
-
-def figures():
-    hook = helper.segments_of([helper.HOOK, helper.frame(40, 40, helper.HOOK)])
-    spiral = helper.segments_of([helper.SPIRAL, helper.frame(40, 40, helper.SPIRAL)])
-    edge = [(10, 0), (10, 20), (0, 10), (20, 10)]
-    cross = helper.segments_of(helper.CROSS + [helper.frame(20, 20, edge)])
-    run = helper.segments_of(helper.RUN_PATHS)
-    return [
-        (hook, [(2, 2), (30, 2)], helper.drawn(40, 40, hook, [(2, 2), (30, 2)])),
-        (spiral, [(2, 2), (38, 38)], helper.drawn(40, 40, spiral, [(2, 2), (38, 38)])),
-        (cross, helper.CROSS_MARKS, helper.drawn(20, 20, cross, helper.CROSS_MARKS)),
-        (run, helper.RUN_MARKS, helper.the_run()),
-    ]
-
-
-QUARTER = [(1, 0), (2, 1), (1, 1), (1, 2)]
-AROUND = [(x, y) for x, y in QUARTER] + [(-y, x) for x, y in QUARTER]
-AROUND += [(-x, -y) for x, y in AROUND]
-
-
-def fan(arms):
-    """A ring about (20, 20) and arms from there to it, as narrow as can be beside one another where they begin."""
-    ring = [(20 + 6 * x, 20 + 6 * y) for x, y in AROUND]
-    paths = [ring + ring[:1], [(32, 26), (40, 40)], [(8, 14), (0, 0)], helper.frame(40, 40)]
-    marks = [(39, 1), (1, 39)]
-    for arm in arms:
-        x, y = AROUND[arm]
-        x_behind, y_behind = AROUND[(arm + 1) % 16]
-        paths.append([(20, 20), (20 + x, 20 + y), (20 + 6 * x, 20 + 6 * y)])
-        marks.append((20 + x + x_behind, 20 + y + y_behind))
-    return helper.segments_of(paths), sorted(marks, key=helper.by_place), helper.drawn(40, 40, paths, marks)
-
-
 def pairs_told(way, count, cartoon):
     told = {(i, j): beyond(way, i, j, cartoon) for i in range(count) for j in range(count)}
     return {pair for pair in told if told[pair] == [0, 1]}, {pair for pair in told if told[pair] == [0, 0]}
@@ -60,11 +20,11 @@ class Slabs(unittest.TestCase):
             self.assertEqual(pairs_told(way, count, cartoon), (seen, every - seen), (way, segments, marks))
 
     def test_figures(self):
-        for segments, marks, cartoon in figures():
+        for segments, marks, cartoon in helper.figures():
             self.check(segments, marks, cartoon)
 
     def test_strewn(self):
-        drawings = strewn()
+        drawings = helper.strewn()
         self.assertGreater(len(drawings), 12)
         self.assertGreater(sum(len(marks) for segments, marks, cartoon in drawings), 60)
         for segments, marks, cartoon in drawings:
@@ -72,13 +32,13 @@ class Slabs(unittest.TestCase):
 
     def test_fans(self):
         dice = helper.Dice(3)
-        self.check(*fan(range(16)), [0, 7])
+        self.check(*helper.fan(range(16)), [0, 7])
         for throw in range(12):
             arms = sorted(dice.shuffled(range(16))[:2 + throw])
-            self.check(*fan(arms), [throw % 8])
+            self.check(*helper.fan(arms), [throw % 8])
         for arm in range(16):
-            self.check(*fan([arm, (arm + 1) % 16, (arm + 8) % 16]), [arm % 8])
-            self.check(*fan([arm, (arm + 1) % 16, (arm + 3) % 16]), [arm % 8])
+            self.check(*helper.fan([arm, (arm + 1) % 16, (arm + 8) % 16]), [arm % 8])
+            self.check(*helper.fan([arm, (arm + 1) % 16, (arm + 3) % 16]), [arm % 8])
 
     def test_two_hundred_points(self):
         """A grid of 14 by 14 points and four on the frame, each box parted from corner to corner."""
@@ -112,14 +72,14 @@ class Slabs(unittest.TestCase):
 
 class Promises(unittest.TestCase):
     def test_1_the_other_way_round(self):
-        for segments, marks, cartoon in figures() + strewn()[:6]:
+        for segments, marks, cartoon in helper.figures() + helper.strewn()[:6]:
             for way in range(4):
                 there = pairs_told(way, len(marks), cartoon)[0]
                 back = pairs_told(way + 4, len(marks), cartoon)[0]
                 self.assertEqual(back, {(j, i) for i, j in there})
 
     def test_6_turned_by_a_quarter_to_the_left(self):
-        for segments, marks, cartoon in figures() + strewn()[:8]:
+        for segments, marks, cartoon in helper.figures() + helper.strewn()[:8]:
             width = max(q[0] for p, q in segments)
             height = max(q[1] for p, q in segments)
             turned_marks = [helper.turned_left(height, mark) for mark in marks]

@@ -3,7 +3,7 @@
 import unittest
 
 import helper
-from paneslide.desk import beyond
+from paneslide.desk import beyond, row
 
 MOST = 18446744073709551615
 NOT_A_CARTOON = [-5, 1, 0]
@@ -64,6 +64,44 @@ class Beyond(unittest.TestCase):
             self.assertEqual(beyond(7, number, 0, []), [-5, 1, 0])
             self.assertEqual(beyond(7, 0, number, [0] * 20), NOT_A_CARTOON)
             self.assertEqual(beyond(7, number, number, helper.the_run() + [0]), [-5, 3, 20])
+
+
+class Row(unittest.TestCase):
+    def test_nothing_is_refused(self):
+        for i in range(3):
+            for way in range(8):
+                answer = row(way, i, helper.the_run())
+                self.assertEqual((answer[0], answer[1]), (0, len(answer) - 2))
+
+    def test_no_such_way(self):
+        for way in [8, 9, 15, 16, 255, 256, 4294967296, MOST - 7, MOST]:
+            self.assertEqual(row(way, 0, helper.the_run()), [-1])
+
+    def test_how_many_bytes(self):
+        self.assertEqual(row(0, 0, padded(131073)), [-6])
+        self.assertEqual(row(0, 0, [0] * 131073), [-6])
+        self.assertEqual(row(0, 0, padded(131072)), [-5, 3, 20])
+        self.assertEqual(row(0, 0, [0] * 131072), NOT_A_CARTOON)
+
+    def test_not_a_cartoon(self):
+        self.assertEqual(row(0, 0, [0] * 20), NOT_A_CARTOON)
+        self.assertEqual(row(0, 0, []), [-5, 1, 0])
+
+    def test_no_such_pane(self):
+        for number in [3, 4, 255, 256, 65536, 65537, 4294967296, MOST]:
+            self.assertEqual(row(0, number, helper.the_run()), [-2])
+        self.assertEqual(row(7, 2, helper.the_run()), [0, 1, 0])
+
+    def test_what_is_looked_at_first(self):
+        for number in [0, 3, MOST]:
+            for cartoon in [helper.the_run(), [0] * 131073, [0] * 20, []]:
+                self.assertEqual(row(8, number, cartoon), [-1])
+                self.assertEqual(row(MOST, number, cartoon), [-1])
+            self.assertEqual(row(7, number, padded(131073)), [-6])
+            self.assertEqual(row(7, number, [0] * 131073), [-6])
+            self.assertEqual(row(7, number, []), [-5, 1, 0])
+            self.assertEqual(row(7, number, [0] * 20), NOT_A_CARTOON)
+            self.assertEqual(row(7, number, helper.the_run() + [0]), [-5, 3, 20])
 
 
 if __name__ == "__main__":

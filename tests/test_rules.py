@@ -3,7 +3,7 @@
 import unittest
 
 import helper
-from paneslide.desk import beyond
+from paneslide.desk import beyond, row
 
 FAR = 1048575
 SQUARE = [(0, 0), (20, 0), (0, 20), (20, 20)]
@@ -12,7 +12,11 @@ SQUARE_LINES = [(0, 1), (0, 2), (1, 3), (2, 3)]
 
 class Rules(unittest.TestCase):
     def told(self, cartoon):
-        return beyond(0, 0, 0, cartoon)
+        """What beyond answers of pane 0 and itself; where that's refused row has to answer the same."""
+        answer = beyond(0, 0, 0, cartoon)
+        same = row(0, 0, cartoon)
+        self.assertEqual(same if answer[0] else same[:1], answer if answer[0] else [0])
+        return answer
 
     def check(self, cartoon, rule, place):
         self.assertEqual(self.told(cartoon), [-5, rule, place])
