@@ -1,14 +1,28 @@
 """The calls: each by itself, nothing is kept."""
 
 from paneslide.judging import judged
+from paneslide.orders import put_up, taken_down
 from paneslide.slide import is_beyond, panes_beyond
 
 MOST_BYTES = 131072
 
 
-def looked_at(way, asked, cartoon):
-    """A pair: the refusal's numbers, [] if nothing is refused; and then the outline of each pane."""
-    if way > 7:
+def is_way(way):
+    """Whether there is a way of that number."""
+    return way <= 7
+
+
+def are_ways(ways):
+    """Whether the number tells ways that may be taken, one at the least."""
+    return 1 <= ways <= 255
+
+
+def looked_at(fits, asked, cartoon):
+    """A pair: the refusal's numbers, [] if nothing is refused; and then the outline of each pane.
+
+    fits: whether the way, or the ways, that the call is handed are such. asked: the panes that it is asked for.
+    """
+    if not fits:
         return [-1], []
     if len(cartoon) > MOST_BYTES:
         return [-6], []
@@ -23,7 +37,7 @@ def looked_at(way, asked, cartoon):
 
 def beyond(way, i, j, cartoon):
     """0, then 1 if pane j is beyond pane i by the way, else 0; or a refusal."""
-    refusal, panes = looked_at(way, [i, j], cartoon)
+    refusal, panes = looked_at(is_way(way), [i, j], cartoon)
     if refusal:
         return refusal
     if i != j and is_beyond(way, panes[i], panes[j]):
@@ -33,8 +47,20 @@ def beyond(way, i, j, cartoon):
 
 def row(way, i, cartoon):
     """0, then how many panes are beyond pane i by the way, then these, rising; or a refusal."""
-    refusal, panes = looked_at(way, [i], cartoon)
+    refusal, panes = looked_at(is_way(way), [i], cartoon)
     if refusal:
         return refusal
     found = panes_beyond(way, i, panes)
     return [0, len(found)] + found
+
+
+def up(ways, cartoon):
+    """0, then how many numbers the order has, then these: pane, way, pane, way, ..; or a refusal."""
+    refusal, panes = looked_at(are_ways(ways), [], cartoon)
+    if refusal:
+        return refusal
+    steps, left = taken_down(ways, panes)
+    if left:
+        return [-3, len(left)]
+    order = put_up(steps)
+    return [0, len(order)] + order

@@ -63,3 +63,30 @@ def panes_beyond(way, i, panes):
         if j != i and is_beyond(way, panes[i], outline):
             found.append(j)
     return found
+
+
+def lines_by_lane(way, panes):
+    """All panes' far lines by the way, each with its pane's number, from the lowest lane on."""
+    lines = []
+    for number, outline in enumerate(panes):
+        for line in far_lines(way, outline):
+            lines.append((line, number))
+    return sorted(lines)
+
+
+def rows_beyond(way, panes):
+    """For each pane those that are beyond it by the way, each once, in no order that counts."""
+    rows = [{} for outline in panes]
+    lines = lines_by_lane(way, panes)
+    for place in range(len(lines)):
+        line, i = lines[place]
+        for later in range(place + 1, len(lines)):
+            other, j = lines[later]
+            # From here on none shares a lane with the line. Of two that share one, one is ahead of the other one.
+            if other[0] >= line[1]:
+                break
+            if i != j and is_ahead(line, other):
+                rows[i][j] = True
+            elif i != j:
+                rows[j][i] = True
+    return [list(row) for row in rows]

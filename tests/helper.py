@@ -105,6 +105,50 @@ CROSS = [[(10, 0), (10, 10), (10, 20)], [(0, 10), (10, 10), (20, 10)]]
 CROSS_MARKS = [(5, 5), (15, 5), (5, 15), (15, 15)]
 
 
+SPIRAL_TILE = (SPIRAL, [(2, 2), (38, 38)])
+HOOK_TILE = (HOOK, [(2, 2), (30, 2)])
+# The hook turned by a quarter: its lower pane gets away to the left, its upper one to the right.
+LYING_TILE = ([(40, 10), (15, 10), (15, 15), (25, 15), (25, 20), (0, 20)], [(38, 2), (38, 30)])
+PLAIN_TILE = ([], [(20, 20)])
+
+
+def cut_at_points(paths):
+    """The paths with those points of all of them put in that lie on their lines."""
+    points = {point for path in paths for point in path}
+    found = []
+    for path in paths:
+        row = path[:1]
+        for p, q in zip(path, path[1:]):
+            on_line = [r for r in points if between(p, q, r)]
+            row += sorted(on_line, key=lambda r: abs(r[0] - p[0]) + abs(r[1] - p[1])) + [q]
+        found.append(row)
+    return found
+
+
+def tiled(tiles):
+    """Boxes of 40 by 40 from the left to the right, each with its path and marks: segments, marks in order, bytes."""
+    paths = [frame(40 * len(tiles), 40)]
+    marks = []
+    for number, (path, places) in enumerate(tiles):
+        left = 40 * number
+        paths.append([(left + x, y) for x, y in path])
+        paths.append([(left + 40, 0), (left + 40, 40)])
+        marks += [(left + x, y) for x, y in places]
+    segments = segments_of(cut_at_points(paths))
+    return segments, sorted(marks, key=by_place), drawn(40 * len(tiles), 40, segments, marks)
+
+
+def hooked():
+    """Drawings with panes that are hooked into one another beside such as aren't."""
+    return [
+        tiled([SPIRAL_TILE, PLAIN_TILE]),
+        tiled([HOOK_TILE, PLAIN_TILE, LYING_TILE]),
+        tiled([PLAIN_TILE, SPIRAL_TILE, HOOK_TILE]),
+        tiled([LYING_TILE, LYING_TILE]),
+        tiled([HOOK_TILE, SPIRAL_TILE, LYING_TILE]),
+    ]
+
+
 def parted(width, height, path, marks):
     """The bytes of a frame and a path across it from edge to edge."""
     return drawn(width, height, [frame(width, height, path), path], marks)
@@ -214,6 +258,55 @@ def ahead(way, segments, marks):
         for place, i in enumerate(panes):
             found |= {(i, j) for j in panes[place + 1:] if j != i}
     return found
+
+
+def pairs_by_way(segments, marks):
+    """For each way the pairs (i, j) of panes of which j is beyond i by it, as seen in slabs."""
+    return [ahead(way, segments, marks) for way in range(8)]
+
+
+def ways_of(ways):
+    return [way for way in range(8) if ways & 2 ** way]
+
+
+def steps_down(ways, count, pairs):
+    """Word for word how so many panes are taken down: the steps (pane, way), and the panes that are locked."""
+    there = set(range(count))
+    steps = []
+    while True:
+        going = {}
+        for pane in there:
+            free = [way for way in ways_of(ways) if not any((pane, other) in pairs[way] for other in there)]
+            if free:
+                going[pane] = min(free)
+        if not going:
+            return steps, sorted(there)
+        steps.append((max(going), going[max(going)]))
+        there.remove(max(going))
+
+
+def told_of_up(ways, count, pairs):
+    """What up has to answer."""
+    steps, left = steps_down(ways, count, pairs)
+    if left:
+        return [-3, len(left)]
+    order = [number for pane, way in reversed(steps) for number in (pane, (way + 4) % 8)]
+    return [0, len(order)] + order
+
+
+def can_be_put_up(ways, count, pairs):
+    """Whether any order at all puts up so many panes by the other ways round: all sets of panes are looked through."""
+    reached = {frozenset()}
+    waiting = [frozenset()]
+    for there in waiting:
+        for pane in set(range(count)) - there:
+            more = there | {pane}
+            # It goes in by the other way round of `way` if none there is beyond it by `way`.
+            goes_in = any(not any((pane, other) in pairs[way] for other in there) for way in ways_of(ways))
+            if goes_in and more not in reached:
+                reached.add(more)
+                waiting.append(more)
+    return frozenset(range(count)) in reached
 
 
 class Dice:
@@ -340,6 +433,29 @@ def figures():
         (cross, CROSS_MARKS, drawn(20, 20, cross, CROSS_MARKS)),
         (run, RUN_MARKS, the_run()),
     ]
+
+
+def many_triangles():
+    """A grid of 14 by 14 points and four on the frame, each box parted from corner to corner."""
+    dice = Dice(7)
+    at = {}
+    for y in range(14):
+        for x in range(14):
+            sideways = dice.below(20) if 0 < x < 13 else 0
+            upwards = dice.below(20) if 0 < y < 13 else 0
+            at[x, y] = (70 * x + sideways, 70 * y + upwards)
+    on_frame = [(30, 0), (880, 0), (30, 910), (880, 910)]
+    paths = [frame(910, 910, list(at.values()) + on_frame)]
+    paths += [[at[x, y] for x in range(14)] for y in range(1, 13)]
+    paths += [[at[x, y] for y in range(14)] for x in range(1, 13)]
+    paths += [[at[x, y], at[x + 1, y + 1]] for x in range(13) for y in range(13)]
+    marks = []
+    for x in range(13):
+        for y in range(13):
+            for x_other, y_other in [(x + 1, y), (x, y + 1)]:
+                three = [at[x, y], at[x + 1, y + 1], at[x_other, y_other]]
+                marks.append((sum(p[0] for p in three) // 3, sum(p[1] for p in three) // 3))
+    return segments_of(paths), sorted(marks, key=by_place), drawn(910, 910, paths, marks)
 
 
 QUARTER = [(1, 0), (2, 1), (1, 1), (1, 2)]

@@ -41,29 +41,8 @@ class Slabs(unittest.TestCase):
             self.check(*helper.fan([arm, (arm + 1) % 16, (arm + 3) % 16]), [arm % 8])
 
     def test_two_hundred_points(self):
-        """A grid of 14 by 14 points and four on the frame, each box parted from corner to corner."""
-        dice = helper.Dice(7)
-        at = {}
-        for y in range(14):
-            for x in range(14):
-                sideways = dice.below(20) if 0 < x < 13 else 0
-                upwards = dice.below(20) if 0 < y < 13 else 0
-                at[x, y] = (70 * x + sideways, 70 * y + upwards)
-        between = [(30, 0), (880, 0), (30, 910), (880, 910)]
-        paths = [helper.frame(910, 910, list(at.values()) + between)]
-        paths += [[at[x, y] for x in range(14)] for y in range(1, 13)]
-        paths += [[at[x, y] for y in range(14)] for x in range(1, 13)]
-        paths += [[at[x, y], at[x + 1, y + 1]] for x in range(13) for y in range(13)]
-        marks = []
-        for x in range(13):
-            for y in range(13):
-                for x_other, y_other in [(x + 1, y), (x, y + 1)]:
-                    three = [at[x, y], at[x + 1, y + 1], at[x_other, y_other]]
-                    marks.append((sum(p[0] for p in three) // 3, sum(p[1] for p in three) // 3))
-        marks = sorted(marks, key=helper.by_place)
-        segments = helper.segments_of(paths)
+        segments, marks, cartoon = helper.many_triangles()
         self.assertEqual((len(helper.points_of(segments)), len(marks)), (200, 338))
-        cartoon = helper.drawn(910, 910, paths, marks)
         for way in [0, 3]:
             seen = helper.ahead(way, segments, marks)
             for i, j in [(0, 337), (5, 6), (40, 300), (170, 171), (337, 0), (100, 99)]:

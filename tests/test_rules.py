@@ -3,7 +3,7 @@
 import unittest
 
 import helper
-from paneslide.desk import beyond, row
+from paneslide.desk import beyond, row, up
 
 FAR = 1048575
 SQUARE = [(0, 0), (20, 0), (0, 20), (20, 20)]
@@ -12,10 +12,14 @@ SQUARE_LINES = [(0, 1), (0, 2), (1, 3), (2, 3)]
 
 class Rules(unittest.TestCase):
     def told(self, cartoon):
-        """What beyond answers of pane 0 and itself; where that's refused row has to answer the same."""
+        """What beyond answers of pane 0 and itself; where that's refused the other calls have to answer the same."""
         answer = beyond(0, 0, 0, cartoon)
-        same = row(0, 0, cartoon)
-        self.assertEqual(same if answer[0] else same[:1], answer if answer[0] else [0])
+        for other in [row(0, 0, cartoon), up(1, cartoon), up(255, cartoon)]:
+            if answer[0]:
+                self.assertEqual(other, answer)
+            else:
+                # Of a cartoon nothing is refused but, by up, panes that are locked.
+                self.assertIn(other[0], [0, -3])
         return answer
 
     def check(self, cartoon, rule, place):
