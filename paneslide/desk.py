@@ -64,3 +64,12 @@ def up(ways, cartoon):
         return [-3, len(left)]
     order = put_up(steps)
     return [0, len(order)] + order
+
+
+def locked(ways, cartoon):
+    """0, then how many panes are locked, then these, rising; or a refusal."""
+    refusal, panes = looked_at(are_ways(ways), [], cartoon)
+    if refusal:
+        return refusal
+    left = taken_down(ways, panes)[1]
+    return [0, len(left)] + left

@@ -89,6 +89,13 @@ def turned_paths(height, paths):
     return [[turned_left(height, point) for point in path] for path in paths]
 
 
+def turned_cartoon(segments, marks):
+    """The bytes of the drawing turned by a quarter to the left."""
+    width = max(q[0] for p, q in segments)
+    height = max(q[1] for p, q in segments)
+    return drawn(height, width, turned_paths(height, segments), [turned_left(height, mark) for mark in marks])
+
+
 def turned_numbers(height, marks):
     """For each pane its number when the drawing is turned by a quarter to the left."""
     turned = [turned_left(height, mark) for mark in sorted(marks, key=by_place)]
@@ -474,3 +481,28 @@ def fan(arms):
         paths.append([(20, 20), (20 + x, 20 + y), (20 + 6 * x, 20 + 6 * y)])
         marks.append((20 + x + x_behind, 20 + y + y_behind))
     return segments_of(paths), sorted(marks, key=by_place), drawn(40, 40, paths, marks)
+
+
+class UntouchedByWays:
+    """Tests of a call that is handed ways that may be taken and a cartoon."""
+
+    def test_what_is_handed_in_stays_and_a_second_call_answers_the_same(self):
+        run = the_run()
+        partly_hooked = tiled([HOOK_TILE, PLAIN_TILE, LYING_TILE])[2]
+        broken = run[:-1]
+        for cartoon in [run, partly_hooked, broken, run, broken, partly_hooked]:
+            before = list(cartoon)
+            first = [self.call(ways, cartoon) for ways in range(0, 258)]
+            self.assertEqual(cartoon, before)
+            second = [self.call(ways, cartoon) for ways in range(0, 258)]
+            self.assertEqual(first, second)
+
+    def test_an_answer_that_is_changed_changes_no_other(self):
+        run = the_run()
+        spiral = parted(40, 40, SPIRAL, [(2, 2), (38, 38)])
+        for ways, cartoon in [(7, run), (255, spiral), (0, run), (7, [])]:
+            answer = self.call(ways, cartoon)
+            kept = list(answer)
+            answer.append(5)
+            answer[0] = 7
+            self.assertEqual(self.call(ways, cartoon), kept)

@@ -59,10 +59,8 @@ class Promises(unittest.TestCase):
 
     def test_6_turned_by_a_quarter_to_the_left(self):
         for segments, marks, cartoon in helper.figures() + helper.strewn()[:8]:
-            width = max(q[0] for p, q in segments)
+            turned = helper.turned_cartoon(segments, marks)
             height = max(q[1] for p, q in segments)
-            turned_marks = [helper.turned_left(height, mark) for mark in marks]
-            turned = helper.drawn(height, width, helper.turned_paths(height, segments), turned_marks)
             number = helper.turned_numbers(height, marks)
             for way in range(8):
                 there = pairs_told(way, len(marks), cartoon)[0]

@@ -3,7 +3,7 @@
 import unittest
 
 import helper
-from paneslide.desk import beyond, row, up
+from paneslide.desk import beyond, locked, row, up
 
 MOST = 18446744073709551615
 NOT_A_CARTOON = [-5, 1, 0]
@@ -106,50 +106,56 @@ class Row(unittest.TestCase):
 
 
 class Ways(unittest.TestCase):
-    """What is refused of ways that may be taken."""
+    """What up and locked refuse."""
 
     def spiral(self):
         return helper.parted(40, 40, helper.SPIRAL, [(2, 2), (38, 38)])
 
+    def check(self, ways, cartoon, refusal):
+        self.assertEqual(up(ways, cartoon), refusal, ways)
+        self.assertEqual(locked(ways, cartoon), refusal, ways)
+
     def test_nothing_is_refused(self):
         for ways in range(1, 256):
             self.assertEqual(up(ways, helper.the_run())[:2], [0, 6])
+            self.assertEqual(locked(ways, helper.the_run()), [0, 0])
 
     def test_no_ways_that_may_be_taken(self):
         for ways in NO_WAYS:
-            self.assertEqual(up(ways, helper.the_run()), [-1])
+            self.check(ways, helper.the_run(), [-1])
 
     def test_how_many_bytes(self):
         for ways in [1, 128, 255]:
-            self.assertEqual(up(ways, padded(131073)), [-6])
-            self.assertEqual(up(ways, [0] * 131073), [-6])
-            self.assertEqual(up(ways, padded(131072)), [-5, 3, 20])
-            self.assertEqual(up(ways, [0] * 131072), NOT_A_CARTOON)
+            self.check(ways, padded(131073), [-6])
+            self.check(ways, [0] * 131073, [-6])
+            self.check(ways, padded(131072), [-5, 3, 20])
+            self.check(ways, [0] * 131072, NOT_A_CARTOON)
 
     def test_not_a_cartoon(self):
         for ways in [1, 128, 255]:
-            self.assertEqual(up(ways, [0] * 20), NOT_A_CARTOON)
-            self.assertEqual(up(ways, []), [-5, 1, 0])
-            self.assertEqual(up(ways, helper.the_run()[:19]), [-5, 1, 19])
-            self.assertEqual(up(ways, helper.the_run() + [0]), [-5, 3, 20])
+            self.check(ways, [0] * 20, NOT_A_CARTOON)
+            self.check(ways, [], [-5, 1, 0])
+            self.check(ways, helper.the_run()[:19], [-5, 1, 19])
+            self.check(ways, helper.the_run() + [0], [-5, 3, 20])
 
-    def test_locked_panes(self):
+    def test_locked_panes_are_refused_by_up_alone(self):
         for ways in range(1, 256):
             self.assertEqual(up(ways, self.spiral()), [-3, 2])
+            self.assertEqual(locked(ways, self.spiral()), [0, 2, 0, 1])
 
     def test_the_ways_are_looked_at_first(self):
         for ways in NO_WAYS:
             for cartoon in [self.spiral(), [0] * 131073, padded(131073), [0] * 20, [], helper.the_run() + [0]]:
-                self.assertEqual(up(ways, cartoon), [-1])
+                self.check(ways, cartoon, [-1])
 
     def test_then_how_many_bytes_there_are(self):
-        self.assertEqual(up(255, self.spiral() + [0] * 131072), [-6])
-        self.assertEqual(up(255, [1] * 131073), [-6])
+        self.check(255, self.spiral() + [0] * 131072, [-6])
+        self.check(255, [1] * 131073, [-6])
 
     def test_then_whether_they_are_a_cartoon(self):
-        self.assertEqual(up(255, self.spiral() + [0]), [-5, 3, 20])
-        self.assertEqual(up(255, self.spiral()[:-1]), [-5, 3, 20])
-        self.assertEqual(up(255, [0] + self.spiral()[1:]), NOT_A_CARTOON)
+        self.check(255, self.spiral() + [0], [-5, 3, 20])
+        self.check(255, self.spiral()[:-1], [-5, 3, 20])
+        self.check(255, [0] + self.spiral()[1:], NOT_A_CARTOON)
 
 
 if __name__ == "__main__":

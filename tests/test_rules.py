@@ -3,7 +3,7 @@
 import unittest
 
 import helper
-from paneslide.desk import beyond, row, up
+from paneslide.desk import beyond, locked, row, up
 
 FAR = 1048575
 SQUARE = [(0, 0), (20, 0), (0, 20), (20, 20)]
@@ -14,7 +14,7 @@ class Rules(unittest.TestCase):
     def told(self, cartoon):
         """What beyond answers of pane 0 and itself; where that's refused the other calls have to answer the same."""
         answer = beyond(0, 0, 0, cartoon)
-        for other in [row(0, 0, cartoon), up(1, cartoon), up(255, cartoon)]:
+        for other in [row(0, 0, cartoon), up(1, cartoon), up(255, cartoon), locked(1, cartoon), locked(255, cartoon)]:
             if answer[0]:
                 self.assertEqual(other, answer)
             else:

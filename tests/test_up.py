@@ -212,27 +212,8 @@ class Goes(unittest.TestCase):
         self.assertGreater(refused, 1000)
 
 
-class Untouched(unittest.TestCase):
-    def test_what_is_handed_in_stays_and_a_second_call_answers_the_same(self):
-        run = helper.the_run()
-        hooked = helper.tiled([helper.HOOK_TILE, helper.PLAIN_TILE, helper.LYING_TILE])[2]
-        broken = run[:-1]
-        for cartoon in [run, hooked, broken, run, broken, hooked]:
-            before = list(cartoon)
-            first = [up(ways, cartoon) for ways in range(0, 258)]
-            self.assertEqual(cartoon, before)
-            second = [up(ways, cartoon) for ways in range(0, 258)]
-            self.assertEqual(first, second)
-
-    def test_an_answer_that_is_changed_changes_no_other(self):
-        run = helper.the_run()
-        spiral = helper.parted(40, 40, helper.SPIRAL, [(2, 2), (38, 38)])
-        for ways, cartoon in [(7, run), (255, spiral), (0, run), (7, [])]:
-            answer = up(ways, cartoon)
-            kept = list(answer)
-            answer.append(5)
-            answer[0] = 7
-            self.assertEqual(up(ways, cartoon), kept)
+class Untouched(helper.UntouchedByWays, unittest.TestCase):
+    call = staticmethod(up)
 
 
 if __name__ == "__main__":
