@@ -1,10 +1,12 @@
 """The calls: each by itself, nothing is kept."""
 
+from paneslide.checking import fault_of_order
 from paneslide.judging import judged
 from paneslide.orders import put_up, taken_down
 from paneslide.slide import is_beyond, panes_beyond
 
 MOST_BYTES = 131072
+MOST_NUMBERS = 65536
 
 
 def is_way(way):
@@ -73,3 +75,13 @@ def locked(ways, cartoon):
         return refusal
     left = taken_down(ways, panes)[1]
     return [0, len(left)] + left
+
+
+def judge(cartoon, order):
+    """0, then nothing if the order puts up every pane, else three numbers that tell what is wrong; or a refusal."""
+    if len(order) > MOST_NUMBERS:
+        return [-6]
+    refusal, panes = looked_at(True, [], cartoon)
+    if refusal:
+        return refusal
+    return [0] + fault_of_order(order, panes)

@@ -156,6 +156,20 @@ def hooked():
     ]
 
 
+def crossed():
+    """The bytes of four panes round a point in the middle."""
+    edge = [(10, 0), (10, 20), (0, 10), (20, 10)]
+    return drawn(20, 20, CROSS + [frame(20, 20, edge)], CROSS_MARKS)
+
+
+def strips():
+    """The bytes of six upright strips, so marked that they're numbered 3, 0, 4, 1, 5, 2 from the left to the right."""
+    lines = [[(10 * strip, 0), (10 * strip, 20)] for strip in range(1, 6)]
+    on_edge = [point for line in lines for point in line]
+    marks = [(10 * strip + 5, 5 if strip % 2 else 15) for strip in range(6)]
+    return drawn(60, 20, lines + [frame(60, 20, on_edge)], marks)
+
+
 def parted(width, height, path, marks):
     """The bytes of a frame and a path across it from edge to edge."""
     return drawn(width, height, [frame(width, height, path), path], marks)
@@ -292,6 +306,11 @@ def steps_down(ways, count, pairs):
         there.remove(max(going))
 
 
+def pairs_of_order(order):
+    """The steps of an order, each a pane and its way."""
+    return list(zip(order[::2], order[1::2]))
+
+
 def told_of_up(ways, count, pairs):
     """What up has to answer."""
     steps, left = steps_down(ways, count, pairs)
@@ -299,6 +318,24 @@ def told_of_up(ways, count, pairs):
         return [-3, len(left)]
     order = [number for pane, way in reversed(steps) for number in (pane, (way + 4) % 8)]
     return [0, len(order)] + order
+
+
+def told_of_judge(order, count, pairs):
+    """What judge has to answer, word for word."""
+    if len(order) % 2:
+        return [0, 1, 0, 0]
+    before = []
+    for step, (pane, way) in enumerate(pairs_of_order(order)):
+        if pane not in range(count) or pane in before:
+            return [0, 2, step, 0]
+        if way not in range(8):
+            return [0, 3, step, 0]
+        barring = [other for other in before if (pane, other) in pairs[(way + 4) % 8]]
+        if barring:
+            return [0, 4, step, min(barring)]
+        before.append(pane)
+    missing = set(range(count)) - set(before)
+    return [0, 5, len(before), min(missing)] if missing else [0]
 
 
 def can_be_put_up(ways, count, pairs):
@@ -314,6 +351,11 @@ def can_be_put_up(ways, count, pairs):
                 reached.add(more)
                 waiting.append(more)
     return frozenset(range(count)) in reached
+
+
+def turned_ways(ways):
+    """The ways that are told by the number, each two more, less 8 where it's above 7."""
+    return sum(2 ** ((way + 2) % 8) for way in ways_of(ways))
 
 
 class Dice:
@@ -440,6 +482,10 @@ def figures():
         (cross, CROSS_MARKS, drawn(20, 20, cross, CROSS_MARKS)),
         (run, RUN_MARKS, the_run()),
     ]
+
+
+def every_drawing():
+    return figures() + hooked() + strewn()
 
 
 def many_triangles():

@@ -49,8 +49,7 @@ class Run(Table):
 
 class Touching(Table):
     def test_round_a_point(self):
-        paths = helper.CROSS + [helper.frame(20, 20, [(10, 0), (10, 20), (0, 10), (20, 10)])]
-        cartoon = helper.drawn(20, 20, paths, helper.CROSS_MARKS)
+        cartoon = helper.crossed()
         self.check(cartoon, 0, [[1], [], [3], []])
         self.check(cartoon, 1, [[1, 2, 3], [3], [3], []])
         self.check(cartoon, 2, [[2], [3], [], []])

@@ -6,15 +6,6 @@ import helper
 from paneslide.desk import beyond, locked, row, up
 
 
-def turned_ways(ways):
-    """The ways that are told by the number, each two more, less 8 where it's above 7."""
-    return sum(2 ** ((way + 2) % 8) for way in helper.ways_of(ways))
-
-
-def every_drawing():
-    return helper.figures() + helper.hooked() + helper.strewn()
-
-
 class Rows(unittest.TestCase):
     def check(self, cartoon, ways, panes):
         answer = locked(ways, cartoon)
@@ -34,8 +25,7 @@ class NoneLocked(Rows):
             self.check(cartoon, ways, [])
 
     def test_round_a_point(self):
-        edge = [(10, 0), (10, 20), (0, 10), (20, 10)]
-        cartoon = helper.drawn(20, 20, helper.CROSS + [helper.frame(20, 20, edge)], helper.CROSS_MARKS)
+        cartoon = helper.crossed()
         for ways in range(1, 256):
             self.check(cartoon, ways, [])
 
@@ -88,7 +78,7 @@ class Hooks(Rows):
 class AsSeen(unittest.TestCase):
     def test_by_all_ways(self):
         partly = 0
-        for segments, marks, cartoon in every_drawing():
+        for segments, marks, cartoon in helper.every_drawing():
             pairs = helper.pairs_by_way(segments, marks)
             for ways in range(1, 256):
                 left = helper.steps_down(ways, len(marks), pairs)[1]
@@ -101,7 +91,7 @@ class AsUp(unittest.TestCase):
     def test_they_say_the_same(self):
         orders = 0
         refused = 0
-        for segments, marks, cartoon in every_drawing():
+        for segments, marks, cartoon in helper.every_drawing():
             for ways in range(1, 256):
                 left = locked(ways, cartoon)[2:]
                 order = up(ways, cartoon)
@@ -119,7 +109,7 @@ class AsRow(unittest.TestCase):
     """What's locked, by what row and beyond tell."""
 
     def test_each_is_barred_by_another_one_that_is_locked(self):
-        for segments, marks, cartoon in every_drawing():
+        for segments, marks, cartoon in helper.every_drawing():
             rows = [[row(way, i, cartoon)[2:] for i in range(len(marks))] for way in range(8)]
             for ways in range(1, 256):
                 left = locked(ways, cartoon)[2:]
@@ -140,7 +130,7 @@ class AsRow(unittest.TestCase):
 
 class Promises(unittest.TestCase):
     def test_2_no_order_at_all_where_some_are_locked(self):
-        for segments, marks, cartoon in every_drawing():
+        for segments, marks, cartoon in helper.every_drawing():
             if len(marks) < 8:
                 pairs = helper.pairs_by_way(segments, marks)
                 for ways in range(1, 256):
@@ -148,7 +138,7 @@ class Promises(unittest.TestCase):
                     self.assertEqual(none_locked, helper.can_be_put_up(ways, len(marks), pairs))
 
     def test_3_no_more_are_locked_where_ways_are_added(self):
-        for segments, marks, cartoon in every_drawing():
+        for segments, marks, cartoon in helper.every_drawing():
             left = {ways: set(locked(ways, cartoon)[2:]) for ways in range(1, 256)}
             for ways in left:
                 for way in range(8):
@@ -161,7 +151,7 @@ class Promises(unittest.TestCase):
             number = helper.turned_numbers(height, marks)
             for ways in range(1, 256):
                 left = sorted(number[pane] for pane in locked(ways, cartoon)[2:])
-                self.assertEqual(locked(turned_ways(ways), turned), [0, len(left)] + left, ways)
+                self.assertEqual(locked(helper.turned_ways(ways), turned), [0, len(left)] + left, ways)
 
 
 class Untouched(helper.UntouchedByWays, unittest.TestCase):

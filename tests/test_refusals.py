@@ -3,7 +3,7 @@
 import unittest
 
 import helper
-from paneslide.desk import beyond, locked, row, up
+from paneslide.desk import beyond, judge, locked, row, up
 
 MOST = 18446744073709551615
 NOT_A_CARTOON = [-5, 1, 0]
@@ -156,6 +156,47 @@ class Ways(unittest.TestCase):
         self.check(255, self.spiral() + [0], [-5, 3, 20])
         self.check(255, self.spiral()[:-1], [-5, 3, 20])
         self.check(255, [0] + self.spiral()[1:], NOT_A_CARTOON)
+
+
+class Judge(unittest.TestCase):
+    GOOD = [0, 4, 1, 5, 2, 4]
+    # Rows in which something is wrong: what's looked at ahead of it is refused all the same.
+    WRONG = [[], [0], [9, 9], [0, 8], [4294967295] * 4, [0, 4, 1, 4], [0, 4]]
+
+    def test_nothing_is_refused(self):
+        self.assertEqual(judge(helper.the_run(), self.GOOD), [0])
+        for order in self.WRONG:
+            answer = judge(helper.the_run(), order)
+            self.assertEqual((answer[0], len(answer)), (0, 4))
+
+    def test_how_many_bytes(self):
+        for order in [self.GOOD] + self.WRONG:
+            self.assertEqual(judge(padded(131073), order), [-6])
+            self.assertEqual(judge([0] * 131073, order), [-6])
+            self.assertEqual(judge(padded(131072), order), [-5, 3, 20])
+            self.assertEqual(judge([0] * 131072, order), NOT_A_CARTOON)
+
+    def test_how_many_numbers_the_order_has(self):
+        for number in [0, 4, 4294967295]:
+            self.assertEqual(judge(helper.the_run(), [number] * 65537), [-6])
+            self.assertEqual(judge(helper.the_run(), self.GOOD + [number] * 65536), [-6])
+        self.assertEqual(judge(helper.the_run(), [0] * 65538), [-6])
+        self.assertEqual(judge(helper.the_run(), [0] * 65536), [0, 2, 1, 0])
+        self.assertEqual(judge(helper.the_run(), self.GOOD + [0] * 65530), [0, 2, 3, 0])
+        self.assertEqual(judge(helper.the_run(), [0] * 65535), [0, 1, 0, 0])
+        self.assertEqual(judge(helper.the_run(), [0] * 30000), [0, 2, 1, 0])
+
+    def test_not_a_cartoon(self):
+        for order in [self.GOOD] + self.WRONG:
+            self.assertEqual(judge([0] * 20, order), NOT_A_CARTOON)
+            self.assertEqual(judge([], order), [-5, 1, 0])
+            self.assertEqual(judge(helper.the_run()[:19], order), [-5, 1, 19])
+            self.assertEqual(judge(helper.the_run() + [0], order), [-5, 3, 20])
+
+    def test_lengths_are_looked_at_before_the_bytes(self):
+        for cartoon in [[], [0] * 20, helper.the_run() + [0], padded(131073)]:
+            self.assertEqual(judge(cartoon, [0] * 65537), [-6])
+        self.assertEqual(judge([], [0] * 65536), [-5, 1, 0])
 
 
 if __name__ == "__main__":

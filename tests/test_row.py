@@ -44,8 +44,7 @@ class Figures(Rows):
             self.check(cartoon, way, [[]])
 
     def test_round_a_point(self):
-        edge = [(10, 0), (10, 20), (0, 10), (20, 10)]
-        cartoon = helper.drawn(20, 20, helper.CROSS + [helper.frame(20, 20, edge)], helper.CROSS_MARKS)
+        cartoon = helper.crossed()
         self.check(cartoon, 0, [[1], [], [3], []])
         self.check(cartoon, 1, [[1, 2, 3], [3], [3], []])
         self.check(cartoon, 3, [[2], [0, 2, 3], [], [2]])

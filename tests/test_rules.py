@@ -3,7 +3,7 @@
 import unittest
 
 import helper
-from paneslide.desk import beyond, locked, row, up
+from paneslide.desk import beyond, judge, locked, row, up
 
 FAR = 1048575
 SQUARE = [(0, 0), (20, 0), (0, 20), (20, 20)]
@@ -14,7 +14,9 @@ class Rules(unittest.TestCase):
     def told(self, cartoon):
         """What beyond answers of pane 0 and itself; where that's refused the other calls have to answer the same."""
         answer = beyond(0, 0, 0, cartoon)
-        for other in [row(0, 0, cartoon), up(1, cartoon), up(255, cartoon), locked(1, cartoon), locked(255, cartoon)]:
+        others = [row(0, 0, cartoon), up(1, cartoon), up(255, cartoon), locked(1, cartoon), locked(255, cartoon)]
+        others += [judge(cartoon, []), judge(cartoon, [0]), judge(cartoon, [4294967295, 8])]
+        for other in others:
             if answer[0]:
                 self.assertEqual(other, answer)
             else:
@@ -289,8 +291,7 @@ class Meeting(Rules):
         self.check(helper.drawn(FAR, FAR, paths, [(5, 10)]), 7, 20 + 40 + 12)
 
     def test_7_ends_in_common_are_none(self):
-        self.check_none(helper.drawn(20, 20, helper.CROSS + [helper.frame(20, 20, [(10, 0), (0, 10), (20, 10), (10, 20)])],
-                                     helper.CROSS_MARKS))
+        self.check_none(helper.crossed())
 
     def test_7_least_place(self):
         """Line 2 (0 4) has point 2 on it, and so has line 3 (1 3), which crosses line 2 as well."""

@@ -6,10 +6,6 @@ import helper
 from paneslide.desk import beyond, row, up
 
 
-def pairs_of_order(order):
-    return list(zip(order[::2], order[1::2]))
-
-
 class Orders(unittest.TestCase):
     def check(self, cartoon, ways, order):
         answer = up(ways, cartoon)
@@ -43,27 +39,23 @@ class Run(Orders):
 
 
 class TakenDown(Orders):
-    def cross(self):
-        edge = [(10, 0), (10, 20), (0, 10), (20, 10)]
-        return helper.drawn(20, 20, helper.CROSS + [helper.frame(20, 20, edge)], helper.CROSS_MARKS)
-
     def test_the_highest_first_where_lower_ones_could_go_too(self):
         """Panes 2 and 3 both go out upwards at first; pane 2 and pane 0 both to the left."""
-        self.check(self.cross(), 4, [0, 6, 1, 6, 2, 6, 3, 6])
-        self.check(self.cross(), 16, [1, 0, 0, 0, 3, 0, 2, 0])
+        self.check(helper.crossed(), 4, [0, 6, 1, 6, 2, 6, 3, 6])
+        self.check(helper.crossed(), 16, [1, 0, 0, 0, 3, 0, 2, 0])
 
     def test_after_each_pane_the_highest_is_looked_for_anew(self):
-        self.check(self.cross(), 8, [1, 7, 0, 7, 3, 7, 2, 7])
-        self.check(self.cross(), 32, [3, 1, 1, 1, 2, 1, 0, 1])
-        self.check(self.cross(), 64, [2, 2, 0, 2, 3, 2, 1, 2])
+        self.check(helper.crossed(), 8, [1, 7, 0, 7, 3, 7, 2, 7])
+        self.check(helper.crossed(), 32, [3, 1, 1, 1, 2, 1, 0, 1])
+        self.check(helper.crossed(), 64, [2, 2, 0, 2, 3, 2, 1, 2])
 
     def test_the_lowest_way_where_several_would_do(self):
-        self.check(self.cross(), 255, [0, 4, 1, 4, 2, 4, 3, 4])
-        self.check(self.cross(), 6, [0, 5, 1, 5, 2, 5, 3, 5])
-        self.check(self.cross(), 24, [1, 7, 0, 7, 3, 7, 2, 7])
+        self.check(helper.crossed(), 255, [0, 4, 1, 4, 2, 4, 3, 4])
+        self.check(helper.crossed(), 6, [0, 5, 1, 5, 2, 5, 3, 5])
+        self.check(helper.crossed(), 24, [1, 7, 0, 7, 3, 7, 2, 7])
 
     def test_a_higher_way_where_the_lower_ones_are_barred(self):
-        self.check(self.cross(), 144, [0, 0, 1, 3, 3, 0, 2, 0])
+        self.check(helper.crossed(), 144, [0, 0, 1, 3, 3, 0, 2, 0])
 
     def test_one_pane(self):
         cartoon = helper.drawn(16, 16, [helper.frame(16, 16)], [(8, 8)])
@@ -74,11 +66,7 @@ class TakenDown(Orders):
             self.check(cartoon, ways, [0, (lowest + 4) % 8])
 
     def test_one_behind_another(self):
-        """Six upright strips, marked so that they're numbered 3, 0, 4, 1, 5, 2 from the left to the right."""
-        lines = [[(10 * strip, 0), (10 * strip, 20)] for strip in range(1, 6)]
-        on_edge = [point for line in lines for point in line]
-        marks = [(10 * strip + 5, 5 if strip % 2 else 15) for strip in range(6)]
-        cartoon = helper.drawn(60, 20, lines + [helper.frame(60, 20, on_edge)], marks)
+        cartoon = helper.strips()
         self.check(cartoon, 1, [3, 4, 0, 4, 4, 4, 1, 4, 5, 4, 2, 4])
         self.check(cartoon, 16, [2, 0, 5, 0, 1, 0, 4, 0, 0, 0, 3, 0])
         self.check(cartoon, 17, [0, 4, 4, 4, 1, 4, 5, 4, 2, 4, 3, 0])
@@ -172,14 +160,14 @@ class Goes(unittest.TestCase):
     def check_order(self, order, ways, count, rows):
         self.assertEqual(sorted(order[::2]), list(range(count)))
         before = []
-        for pane, way in pairs_of_order(order):
+        for pane, way in helper.pairs_of_order(order):
             self.assertTrue(ways & 2 ** ((way + 4) % 8), (ways, order))
             self.assertFalse(set(rows[(way + 4) % 8][pane]) & set(before), (ways, order))
             before.append(pane)
 
     def test_each_pane_once_and_past_those_before_it(self):
         orders = 0
-        for segments, marks, cartoon in helper.figures() + helper.hooked() + helper.strewn():
+        for segments, marks, cartoon in helper.every_drawing():
             rows = self.told_rows(len(marks), cartoon)
             for ways in range(1, 256):
                 answer = up(ways, cartoon)
@@ -193,14 +181,14 @@ class Goes(unittest.TestCase):
         for segments, marks, cartoon in helper.figures() + helper.hooked():
             for ways in [7, 68, 85, 170, 255]:
                 before = []
-                for pane, way in pairs_of_order(up(ways, cartoon)[2:]):
+                for pane, way in helper.pairs_of_order(up(ways, cartoon)[2:]):
                     for other in before:
                         self.assertEqual(beyond((way + 4) % 8, pane, other, cartoon), [0, 0])
                     before.append(pane)
 
     def test_no_order_at_all_where_some_are_locked(self):
         refused = 0
-        for segments, marks, cartoon in helper.figures() + helper.hooked() + helper.strewn():
+        for segments, marks, cartoon in helper.every_drawing():
             pairs = helper.pairs_by_way(segments, marks)
             if len(marks) < 8:
                 for ways in range(1, 256):
