@@ -1,6 +1,7 @@
 """The calls: each by itself, nothing is kept."""
 
 from paneslide.checking import fault_of_order
+from paneslide.coming import fewest_coming
 from paneslide.judging import judged
 from paneslide.orders import put_up, taken_down
 from paneslide.slide import is_beyond, panes_beyond
@@ -85,3 +86,14 @@ def judge(cartoon, order):
     if refusal:
         return refusal
     return [0] + fault_of_order(order, panes)
+
+
+def out(ways, i, cartoon):
+    """0, then the way, how many panes come out for pane i by it, and these in their order, i last; or a refusal."""
+    refusal, panes = looked_at(are_ways(ways), [i], cartoon)
+    if refusal:
+        return refusal
+    way, coming = fewest_coming(ways, i, panes)
+    if way is None:
+        return [-3]
+    return [0, way, len(coming)] + coming

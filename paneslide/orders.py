@@ -1,4 +1,4 @@
-"""How panes are taken down by the ways that may be taken, and the order in which they are put up again."""
+"""How panes are taken out by the ways that may be taken, and the order in which they are put up again."""
 
 from paneslide.slide import rows_beyond
 
@@ -8,10 +8,10 @@ class WayOut:
 
     def __init__(self, way, panes):
         self.way = way
-        self.in_front = [0 for outline in panes]
+        self.rows = rows_beyond(way, panes)
+        self.in_front = [len(others) for others in self.rows]
         self.behind = [[] for outline in panes]
-        for i, others in enumerate(rows_beyond(way, panes)):
-            self.in_front[i] = len(others)
+        for i, others in enumerate(self.rows):
             for j in others:
                 self.behind[j].append(i)
 
@@ -30,28 +30,37 @@ def ways_told(ways):
     return [way for way in range(8) if ways >> way & 1]
 
 
-def step_out(there, ways_out):
-    """Of the panes there that go out the highest, and its lowest way; None if none does. There are told rising."""
-    for pane in reversed(there):
+def step_out(asked, ways_out):
+    """Of the panes asked for the first that goes out, and the first way by which it does; None if none does."""
+    for pane in asked:
         for way_out in ways_out:
             if way_out.lets_out(pane):
                 return (pane, way_out.way)
     return None
 
 
-def taken_down(ways, panes):
-    """A pair: the panes that are taken out, each with its way, as they come; and those that are left, rising."""
-    ways_out = [WayOut(way, panes) for way in ways_told(ways)]
-    there = list(range(len(panes)))
+def taken_out(asked, ways_out):
+    """A pair: the panes that are taken out, each with its way, as they come; and those that are left.
+
+    Again and again the first of the panes asked for that goes out is taken, by the first way by which it does.
+    """
+    left = list(asked)
     steps = []
-    step = step_out(there, ways_out)
+    step = step_out(left, ways_out)
     while step is not None:
         steps.append(step)
-        there.remove(step[0])
+        left.remove(step[0])
         for way_out in ways_out:
             way_out.lose(step[0])
-        step = step_out(there, ways_out)
-    return steps, there
+        step = step_out(left, ways_out)
+    return steps, left
+
+
+def taken_down(ways, panes):
+    """A pair: all panes that are taken down, the highest first, each with its way; and those that are left, rising."""
+    ways_out = [WayOut(way, panes) for way in ways_told(ways)]
+    steps, left = taken_out(sorted(range(len(panes)), reverse=True), ways_out)
+    return steps, sorted(left)
 
 
 def put_up(steps):

@@ -5,6 +5,7 @@ The function of a rule answers the least place at which it's broken, None if it 
 
 from paneslide.drawing import HEAD, joined_points, number_at, told_length
 from paneslide.points import comes_behind, cross, is_on
+from paneslide.reaching import reached_from
 
 SIGN = (71, 76, 65, 49)
 # Of each number in the head: its place, its bytes, the least and the most that it may be.
@@ -143,19 +144,6 @@ def parting_point(drawing):
         if len(reached_from(start, number, joined)) < len(joined) - 1:
             return drawing.point_place(number)
     return None
-
-
-def reached_from(start, shut, joined):
-    """The points to which a way along lines goes from the start, not through the shut one: a dict of True."""
-    reached = {start: True}
-    waiting = [start]
-    while waiting:
-        here = waiting.pop()
-        for there in joined[here]:
-            if there != shut and there not in reached:
-                reached[there] = True
-                waiting.append(there)
-    return reached
 
 
 def stray_mark(drawing):

@@ -338,6 +338,41 @@ def told_of_judge(order, count, pairs):
     return [0, 5, len(before), min(missing)] if missing else [0]
 
 
+def hanging_on(i, pairs):
+    """The least set with pane i in it and with all panes that are beyond one in it by the way of the pairs."""
+    found = {i}
+    while True:
+        more = found | {j for one, j in pairs if one in found}
+        if more == found:
+            return found
+        found = more
+
+
+def coming_out(i, count, pairs):
+    """The panes that come out for pane i by the way of the pairs, in their order; None if it can't come out by it."""
+    there = set(range(count))
+    left = hanging_on(i, pairs)
+    order = []
+    while left:
+        going = [pane for pane in left if not any((pane, other) in pairs for other in there)]
+        if not going:
+            return None
+        order.append(min(going))
+        there.remove(min(going))
+        left.remove(min(going))
+    return order
+
+
+def told_of_out(ways, i, count, pairs):
+    """What out has to answer, word for word."""
+    found = [(way, coming_out(i, count, pairs[way])) for way in ways_of(ways)]
+    found = [(len(order), way, order) for way, order in found if order is not None]
+    if not found:
+        return [-3]
+    how_many, way, order = min(found)
+    return [0, way, how_many] + order
+
+
 def can_be_put_up(ways, count, pairs):
     """Whether any order at all puts up so many panes by the other ways round: all sets of panes are looked through."""
     reached = {frozenset()}
@@ -486,6 +521,30 @@ def figures():
 
 def every_drawing():
     return figures() + hooked() + strewn()
+
+
+def turns_no_right(segments):
+    """Whether at no point a pane's corner turns to the right: whether no gap between lines there is too wide."""
+    near = {}
+    for p, q in segments:
+        near.setdefault(p, []).append(q)
+        near.setdefault(q, []).append(p)
+    width = max(x for x, y in near)
+    height = max(y for x, y in near)
+    for point in near:
+        if 0 < point[0] < width and 0 < point[1] < height:
+            for q in near[point]:
+                if all(side(point, q, r) < 0 for r in near[point] if r != q):
+                    return False
+    return True
+
+
+def without_right_turns():
+    """Drawings all of whose panes' corners turn left or go straight on."""
+    found = thrown_cartoons(range(400, 412), 40, 36, 5, 0)
+    found += thrown_cartoons(range(500, 512), 48, 40, 7, 0, 8)
+    found += thrown_cartoons(range(600, 660), 30, 24, 7, 25, 6)
+    return [drawing for drawing in found + strewn() + figures() if turns_no_right(drawing[0])]
 
 
 def many_triangles():

@@ -3,7 +3,7 @@
 import unittest
 
 import helper
-from paneslide.desk import beyond, judge, locked, row, up
+from paneslide.desk import beyond, judge, locked, out, row, up
 
 MOST = 18446744073709551615
 NOT_A_CARTOON = [-5, 1, 0]
@@ -105,11 +105,13 @@ class Row(unittest.TestCase):
             self.assertEqual(row(7, number, helper.the_run() + [0]), [-5, 3, 20])
 
 
+def spiral():
+    """Two panes that no way gets past one another."""
+    return helper.parted(40, 40, helper.SPIRAL, [(2, 2), (38, 38)])
+
+
 class Ways(unittest.TestCase):
     """What up and locked refuse."""
-
-    def spiral(self):
-        return helper.parted(40, 40, helper.SPIRAL, [(2, 2), (38, 38)])
 
     def check(self, ways, cartoon, refusal):
         self.assertEqual(up(ways, cartoon), refusal, ways)
@@ -140,22 +142,22 @@ class Ways(unittest.TestCase):
 
     def test_locked_panes_are_refused_by_up_alone(self):
         for ways in range(1, 256):
-            self.assertEqual(up(ways, self.spiral()), [-3, 2])
-            self.assertEqual(locked(ways, self.spiral()), [0, 2, 0, 1])
+            self.assertEqual(up(ways, spiral()), [-3, 2])
+            self.assertEqual(locked(ways, spiral()), [0, 2, 0, 1])
 
     def test_the_ways_are_looked_at_first(self):
         for ways in NO_WAYS:
-            for cartoon in [self.spiral(), [0] * 131073, padded(131073), [0] * 20, [], helper.the_run() + [0]]:
+            for cartoon in [spiral(), [0] * 131073, padded(131073), [0] * 20, [], helper.the_run() + [0]]:
                 self.check(ways, cartoon, [-1])
 
     def test_then_how_many_bytes_there_are(self):
-        self.check(255, self.spiral() + [0] * 131072, [-6])
+        self.check(255, spiral() + [0] * 131072, [-6])
         self.check(255, [1] * 131073, [-6])
 
     def test_then_whether_they_are_a_cartoon(self):
-        self.check(255, self.spiral() + [0], [-5, 3, 20])
-        self.check(255, self.spiral()[:-1], [-5, 3, 20])
-        self.check(255, [0] + self.spiral()[1:], NOT_A_CARTOON)
+        self.check(255, spiral() + [0], [-5, 3, 20])
+        self.check(255, spiral()[:-1], [-5, 3, 20])
+        self.check(255, [0] + spiral()[1:], NOT_A_CARTOON)
 
 
 class Judge(unittest.TestCase):
@@ -197,6 +199,68 @@ class Judge(unittest.TestCase):
         for cartoon in [[], [0] * 20, helper.the_run() + [0], padded(131073)]:
             self.assertEqual(judge(cartoon, [0] * 65537), [-6])
         self.assertEqual(judge([], [0] * 65536), [-5, 1, 0])
+
+
+class Out(unittest.TestCase):
+    NO_PANES = [3, 4, 255, 256, 65536, 65537, 4294967296, MOST - 1, MOST]
+
+    def test_nothing_is_refused(self):
+        for ways in range(1, 256):
+            for i in range(3):
+                answer = out(ways, i, helper.the_run())
+                self.assertEqual((answer[0], answer[2]), (0, len(answer) - 3))
+
+    def test_no_ways_that_may_be_taken(self):
+        for ways in NO_WAYS:
+            self.assertEqual(out(ways, 0, helper.the_run()), [-1])
+
+    def test_how_many_bytes(self):
+        for ways in [1, 128, 255]:
+            self.assertEqual(out(ways, 0, padded(131073)), [-6])
+            self.assertEqual(out(ways, 0, [0] * 131073), [-6])
+            self.assertEqual(out(ways, 0, padded(131072)), [-5, 3, 20])
+            self.assertEqual(out(ways, 0, [0] * 131072), NOT_A_CARTOON)
+
+    def test_not_a_cartoon(self):
+        for ways in [1, 128, 255]:
+            self.assertEqual(out(ways, 0, [0] * 20), NOT_A_CARTOON)
+            self.assertEqual(out(ways, 0, []), [-5, 1, 0])
+            self.assertEqual(out(ways, 0, helper.the_run()[:19]), [-5, 1, 19])
+            self.assertEqual(out(ways, 0, helper.the_run() + [0]), [-5, 3, 20])
+
+    def test_no_such_pane(self):
+        for i in self.NO_PANES:
+            self.assertEqual(out(1, i, helper.the_run()), [-2])
+            self.assertEqual(out(255, i, helper.the_run()), [-2])
+        self.assertEqual(out(255, 2, spiral()), [-2])
+        self.assertEqual(out(255, 2, helper.the_run()), [0, 0, 1, 2])
+
+    def test_it_can_not_come_out(self):
+        for ways in [1, 2, 128, 254, 255]:
+            self.assertEqual(out(ways, 0, spiral()), [-3])
+            self.assertEqual(out(ways, 1, spiral()), [-3])
+
+    def test_the_ways_are_looked_at_first(self):
+        for ways in NO_WAYS:
+            for cartoon in [spiral(), helper.the_run(), padded(131073), [0] * 131073, [0] * 20, [], [0] + spiral()]:
+                for i in [0, 3, MOST]:
+                    self.assertEqual(out(ways, i, cartoon), [-1])
+
+    def test_then_how_many_bytes_there_are(self):
+        for i in [0, 3, MOST]:
+            self.assertEqual(out(255, i, padded(131073)), [-6])
+            self.assertEqual(out(1, i, [0] * 131073), [-6])
+
+    def test_then_whether_they_are_a_cartoon(self):
+        for i in [0, 3, MOST]:
+            self.assertEqual(out(255, i, []), [-5, 1, 0])
+            self.assertEqual(out(255, i, [0] * 20), NOT_A_CARTOON)
+            self.assertEqual(out(255, i, spiral() + [0]), [-5, 3, 20])
+
+    def test_then_whether_there_is_such_a_pane(self):
+        for i in [2] + self.NO_PANES:
+            for ways in [1, 64, 255]:
+                self.assertEqual(out(ways, i, spiral()), [-2])
 
 
 if __name__ == "__main__":

@@ -3,7 +3,7 @@
 import unittest
 
 import helper
-from paneslide.desk import beyond, judge, locked, row, up
+from paneslide.desk import beyond, judge, locked, out, row, up
 
 FAR = 1048575
 SQUARE = [(0, 0), (20, 0), (0, 20), (20, 20)]
@@ -16,11 +16,12 @@ class Rules(unittest.TestCase):
         answer = beyond(0, 0, 0, cartoon)
         others = [row(0, 0, cartoon), up(1, cartoon), up(255, cartoon), locked(1, cartoon), locked(255, cartoon)]
         others += [judge(cartoon, []), judge(cartoon, [0]), judge(cartoon, [4294967295, 8])]
+        others += [out(1, 0, cartoon), out(255, 0, cartoon)]
         for other in others:
             if answer[0]:
                 self.assertEqual(other, answer)
             else:
-                # Of a cartoon nothing is refused but, by up, panes that are locked.
+                # Of a cartoon nothing is refused but, by up and out, panes that can't come out.
                 self.assertIn(other[0], [0, -3])
         return answer
 
