@@ -236,6 +236,9 @@ class Slabs:
         flat = [ends for ends in self.segments if ends[0][1] == height == ends[1][1]]
         if any(p[0] <= across <= q[0] for p, q in flat):
             return None
+        # A point from which lines go but downwards lies on none of those that cross the slab above it.
+        if any((across, height) in ends for ends in self.segments):
+            return None
         slab = self.heights.index(height)
         for number in self.gaps(slab):
             low, high = self.gap(slab, number, height)
